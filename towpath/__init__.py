@@ -1,0 +1,1 @@
+"""Towpath: stretches of a path that are closed."""

@@ -1,0 +1,9 @@
+"""The refusals of the program."""
+
+
+class PathError(ValueError):
+    pass
+
+
+class NoStretch(PathError):
+    pass
