@@ -2,26 +2,12 @@
 
 import unittest
 
+from plain_stones import every_set, rows_of
 from towpath.errors import NoStretch
 from towpath.stretches import closed, opened
 
 STONES = range(-4, 4)
 AROUND = range(-6, 6)
-
-
-def rows_of(stones):
-    rows = []
-    for stone in sorted(stones):
-        if rows and rows[-1][1] == stone - 1:
-            rows[-1] = (rows[-1][0], stone)
-        else:
-            rows.append((stone, stone))
-    return rows
-
-
-def every_set():
-    for bits in range(1 << len(STONES)):
-        yield {stone for place, stone in enumerate(STONES) if bits >> place & 1}
 
 
 class EverySmallPath(unittest.TestCase):
@@ -40,7 +26,7 @@ class EverySmallPath(unittest.TestCase):
         self.assertEqual(rows, rows_of(stones))
 
     def test_every_deed_on_every_set(self):
-        for stones in every_set():
+        for stones in every_set(STONES):
             for first in AROUND:
                 for last in AROUND:
                     if last < first:

@@ -1,5 +1,6 @@
 import unittest
 
+from plain_stones import check_form
 from towpath.errors import NoStretch, PathError
 from towpath.stretches import closed, opened
 
@@ -11,10 +12,7 @@ class RowsCase(unittest.TestCase):
         handed = list(rows)
         answer = deed(handed, first, last)
         self.assertEqual(answer, wanted)
-        self.assertIs(type(answer), list)
-        for row in answer:
-            self.assertIs(type(row), tuple)
-            self.assertEqual([type(stone) for stone in row], [int, int])
+        check_form(self, answer)
         self.assertEqual(handed, rows)
 
 
